@@ -1,0 +1,1 @@
+"""What a few cases tell of all: see partedcases/guesses.py."""
