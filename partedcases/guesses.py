@@ -1,4 +1,5 @@
-"""Guesses of some cases: how wrong they are, and in how many ways they part sets of cases.
+"""Guesses of some cases: how wrong they are, in how many ways they part sets of cases,
+which samples mislead, and which cases tell a guess from all others.
 
 A set of cases is a whole number: 2 to the power of each one's number, together.
 Each answer is a list of whole numbers; a refusal is one number alone, below 0.
@@ -10,10 +11,13 @@ NO_GUESSES = 6
 ALIKE = 17
 NOT_AS_TOLD = 22
 FULL = 28
+NONE_DOES = 33
 NOT_BEGUN = 61
 
 MOST_CASES = 8
 MOST_GUESSES = 16
+MOST_THINGS = 40
+MOST_PARTS = 1000
 BEGIN = 0
 
 
@@ -41,6 +45,14 @@ def sets_of_size(cases, size):
     return [members for members in all_sets(cases) if size_of(members) == size]
 
 
+def how_many_sets(things, size):
+    count = 1
+    for chosen in range(size):
+        # Always a whole number: each set of one more is counted once for each thing in it.
+        count = count * (things - chosen) // (chosen + 1)
+    return count
+
+
 def ways_parted(guesses, members):
     found = []
     for guess in guesses:
@@ -58,6 +70,39 @@ def parted_in_every_way(guesses, members):
 def depth_of(guesses, cases):
     # With a guess the set of nothing is always parted in every way, so there is a largest.
     return max([size_of(members) for members in all_sets(cases) if parted_in_every_way(guesses, members)])
+
+
+def wrong_sets(state):
+    return [guess ^ state.truth for guess in state.guesses]
+
+
+def wrong_on_at_least(state, e):
+    return [wrong for wrong in wrong_sets(state) if size_of(wrong) >= e]
+
+
+def fitting(wrongs, sample):
+    return [i for i in range(len(wrongs)) if (wrongs[i] & sample) == 0]
+
+
+def misleading_samples(state, k, e):
+    wrongs = wrong_on_at_least(state, e)
+    return [sample for sample in sets_of_size(state.cases, k) if len(fitting(wrongs, sample)) > 0]
+
+
+def most_wrong(wrongs, sample):
+    return max([size_of(wrongs[i]) for i in fitting(wrongs, sample)])
+
+
+def tells_from_all(differences, members):
+    return all([(difference & members) != 0 for difference in differences])
+
+
+def telling_cases(state, i):
+    differences = [guess ^ state.guesses[i] for guess in state.guesses if guess != state.guesses[i]]
+    # No two guesses are alike, so the set of all cases always tells.
+    telling = [members for members in all_sets(state.cases) if tells_from_all(differences, members)]
+    # The sets rise, and of like ones the first is taken: the one with the least number.
+    return min(telling, key=size_of)
 
 
 def answer_begin(state, cases, truth):
@@ -101,7 +146,7 @@ def answer_wrong(state, i):
 def answer_best(state):
     if len(state.guesses) == 0:
         return [-NO_GUESSES]
-    counts = [size_of(guess ^ state.truth) for guess in state.guesses]
+    counts = [size_of(wrong) for wrong in wrong_sets(state)]
     fewest = min(counts)
     return [counts.index(fewest), fewest]
 
@@ -133,6 +178,75 @@ def answer_deep(state):
     return [len(deepest)] + deepest
 
 
+def answer_few_ways(state, n, d):
+    if n > MOST_THINGS or d > MOST_THINGS:
+        return [-NOT_AS_TOLD]
+    return [sum([how_many_sets(n, size) for size in range(d + 1)])]
+
+
+def answer_fit(state, s):
+    fit = fitting(wrong_sets(state), s)
+    return [len(fit)] + fit
+
+
+def answer_misleads(state, e, s):
+    wrongs = wrong_sets(state)
+    misleaders = [i for i in fitting(wrongs, s) if size_of(wrongs[i]) >= e]
+    if len(misleaders) == 0:
+        return [-NONE_DOES]
+    return [misleaders[0]]
+
+
+def answer_misleading(state, k, e):
+    return [len(misleading_samples(state, k, e)), how_many_sets(state.cases, k)]
+
+
+def answer_worst(state, k):
+    wrongs = wrong_sets(state)
+    # Every guess is wrong on 0 or more: by 0 just those samples mislead that a guess fits.
+    samples = misleading_samples(state, k, 0)
+    if len(samples) == 0:
+        return [-NONE_DOES]
+    counts = [most_wrong(wrongs, sample) for sample in samples]
+    most = max(counts)
+    return [samples[counts.index(most)], most]
+
+
+def answer_by_one(state, k, e):
+    # A guess fits just the samples of cases on which it's right.
+    return [sum([how_many_sets(state.cases - size_of(wrong), k) for wrong in wrong_on_at_least(state, e)])]
+
+
+def answer_enough(state, e, p, q):
+    if q < 1 or q > MOST_PARTS or p > q:
+        return [-NOT_AS_TOLD]
+    for k in range(state.cases + 1):
+        if len(misleading_samples(state, k, e)) * q <= how_many_sets(state.cases, k) * p:
+            return [k]
+    return [-NONE_DOES]
+
+
+def answer_tells(state, i):
+    telling = telling_cases(state, i)
+    return [size_of(telling), telling]
+
+
+def answer_hardest(state):
+    if len(state.guesses) == 0:
+        return [-NO_GUESSES]
+    counts = [size_of(telling_cases(state, i)) for i in range(len(state.guesses))]
+    most = max(counts)
+    return [counts.index(most), most]
+
+
+def answer_parted(state, s):
+    return [1 << size_of(s), len(ways_parted(state.guesses, s))]
+
+
+def answer_told(state):
+    return [state.cases, state.truth, len(state.guesses)] + state.guesses
+
+
 # By the call's number: what answers it, and what it is told. The letters s, i and k
 # bear the refusals that hold wherever such a one is told.
 CALLS = (
@@ -148,6 +262,17 @@ CALLS = (
     (answer_growth, ("k",)),
     (answer_depth, ()),
     (answer_deep, ()),
+    (answer_few_ways, ("n", "d")),
+    (answer_fit, ("s",)),
+    (answer_misleads, ("e", "s")),
+    (answer_misleading, ("k", "e")),
+    (answer_worst, ("k",)),
+    (answer_by_one, ("k", "e")),
+    (answer_enough, ("e", "p", "q")),
+    (answer_tells, ("i",)),
+    (answer_hardest, ()),
+    (answer_parted, ("s",)),
+    (answer_told, ()),
 )
 
 
@@ -172,7 +297,9 @@ def answer(state, call, given):
         return CALLS[call][0](state)
     if len(given) == 1:
         return CALLS[call][0](state, given[0])
-    return CALLS[call][0](state, given[0], given[1])
+    if len(given) == 2:
+        return CALLS[call][0](state, given[0], given[1])
+    return CALLS[call][0](state, given[0], given[1], given[2])
 
 
 def answers(calls):

@@ -53,6 +53,50 @@ def deep():
     return [11]
 
 
+def few_ways(n, d):
+    return [12, n, d]
+
+
+def fit(s):
+    return [13, s]
+
+
+def misleads(e, s):
+    return [14, e, s]
+
+
+def misleading(k, e):
+    return [15, k, e]
+
+
+def worst(k):
+    return [16, k]
+
+
+def by_one(k, e):
+    return [17, k, e]
+
+
+def enough(e, p, q):
+    return [18, e, p, q]
+
+
+def tells(i):
+    return [19, i]
+
+
+def hardest():
+    return [20]
+
+
+def parted(s):
+    return [21, s]
+
+
+def told():
+    return [22]
+
+
 def adds(guesses):
     return [add(one) for one in guesses]
 

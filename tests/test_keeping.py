@@ -1,12 +1,16 @@
-"""Promise 1: begin, add, drop, truth, guess."""
+"""Promise 1: begin, add, drop, truth, guess, told."""
 
 import unittest
 
-from calling import BIG, add, adds, ask, ask_behind, begin, best, deep, depth, drop, every, growth, guess
-from calling import truth, ways, wrong
+from calling import BIG, add, adds, ask, ask_behind, begin, best, by_one, deep, depth, drop, enough, every, few_ways
+from calling import fit, growth, guess, hardest, misleading, misleads, parted, tells, told, truth, ways, worst, wrong
 
-EVERY_OTHER = [add(0), drop(0), truth(0), guess(0), wrong(0), best(), ways(0), every(0), growth(0), depth(), deep()]
-WRONG_EVERY_OTHER = [add(BIG), drop(BIG), truth(BIG), guess(BIG), wrong(BIG), ways(BIG), every(BIG), growth(BIG)]
+EVERY_OTHER = [add(0), drop(0), truth(0), guess(0), wrong(0), best(), ways(0), every(0), growth(0), depth(), deep(),
+               few_ways(0, 0), fit(0), misleads(0, 0), misleading(0, 0), worst(0), by_one(0, 0), enough(0, 0, 1),
+               tells(0), hardest(), parted(0), told()]
+WRONG_EVERY_OTHER = [add(BIG), drop(BIG), truth(BIG), guess(BIG), wrong(BIG), ways(BIG), every(BIG), growth(BIG),
+                     few_ways(BIG, BIG), fit(BIG), misleads(BIG, BIG), misleading(BIG, BIG), worst(BIG),
+                     by_one(BIG, BIG), enough(BIG, BIG, BIG), tells(BIG), parted(BIG)]
 
 
 class NotBegun(unittest.TestCase):
@@ -16,7 +20,7 @@ class NotBegun(unittest.TestCase):
                 self.assertEqual(ask(call), [[-61]])
 
     def test_refused_calls_leave_nothing_behind(self):
-        self.assertEqual(ask_behind(EVERY_OTHER + [begin(2, 1)], guess(0), truth(0)), [[-2], [1]])
+        self.assertEqual(ask_behind(EVERY_OTHER + [begin(2, 1)], guess(0), told(), truth(0)), [[-2], [2, 1, 0], [1]])
 
     def test_a_refused_begin_does_not_begin(self):
         for refused in [begin(0, 0), begin(9, 0), begin(3, 8)]:
@@ -151,6 +155,45 @@ class Guess(unittest.TestCase):
     def test_no_such_guess(self):
         self.assertEqual(ask_behind([begin(8, 0), add(255)], guess(1), guess(BIG), guess(0)), [[-2], [-2], [255]])
         self.assertEqual(ask_behind([begin(8, 0)], guess(0)), [[-2]])
+
+
+class Told(unittest.TestCase):
+    def test_cases_truth_how_many_guesses_these(self):
+        self.assertEqual(ask_behind([begin(4, 9)] + adds([6, 15, 0, 9]), told()), [[4, 9, 4, 6, 15, 0, 9]])
+
+    def test_no_guesses(self):
+        self.assertEqual(ask(begin(1, 0), told()), [[0], [1, 0, 0]])
+        self.assertEqual(ask(begin(8, 255), told()), [[0], [8, 255, 0]])
+
+    def test_one(self):
+        self.assertEqual(ask_behind([begin(1, 1), add(0)], told()), [[1, 1, 1, 0]])
+
+    def test_16(self):
+        strewn = [(7 + 11 * step) % 256 for step in range(16)]
+        self.assertEqual(ask_behind([begin(8, 200)] + adds(strewn), told()), [[8, 200, 16] + strewn])
+
+    def test_as_they_came_and_not_rising(self):
+        self.assertEqual(ask_behind([begin(3, 0), add(7), add(2), add(5)], told()), [[3, 0, 3, 7, 2, 5]])
+
+    def test_behind_each_change(self):
+        self.assertEqual(
+            ask(begin(3, 5), told(), add(7), told(), add(1), told(), truth(2), told(), drop(0), told(), begin(2, 3), told()),
+            [[0], [3, 5, 0], [0], [3, 5, 1, 7], [1], [3, 5, 2, 7, 1], [5], [3, 2, 2, 7, 1], [1], [3, 2, 1, 1],
+             [0], [2, 3, 0]])
+
+    def test_what_was_told_stays_as_it_was(self):
+        self.assertEqual(ask_behind([begin(2, 0), add(1)], told(), add(2), told()), [[2, 0, 1, 1], [1], [2, 0, 2, 1, 2]])
+
+    def test_no_refused_call_changes_it(self):
+        refused = [begin(0, 0), begin(3, 8), add(8), add(7), drop(2), truth(8), guess(2), wrong(2), ways(8), every(8),
+                   growth(4), few_ways(41, 0), few_ways(0, 41), fit(8), misleads(0, 8), misleads(4, 0), misleading(4, 0),
+                   worst(4), by_one(4, 0), enough(0, 2, 1), enough(0, 0, 0), enough(0, 0, 1), tells(2), parted(8)]
+        for one in refused:
+            with self.subTest(refused=one):
+                each = ask_behind([begin(3, 5), add(7), add(5)], told(), one, told())
+                self.assertEqual(each[0], [3, 5, 2, 7, 5])
+                self.assertEqual(each[2], each[0])
+                self.assertTrue(len(each[1]) == 1 and each[1][0] < 0, each)
 
 
 if __name__ == "__main__":

@@ -21,6 +21,13 @@ METHODS = """append clear copy count endswith extend find get index insert isaln
 VALUES = ["cases", "truth", "guesses"]
 WORDS = """type typing typing_extensions enum Enum IntEnum StrEnum Flag IntFlag Generic Protocol ABC ABCMeta namedtuple
     NamedTuple TypedDict TYPE_CHECKING abstractmethod""".split()
+KEYWORDS = {"sorted": ["key", "reverse"], "min": ["key", "default"], "max": ["key", "default"], "sum": ["start"],
+            "enumerate": ["start"], "zip": ["strict"]}
+WALKERS = ["range", "zip", "enumerate", "reversed"]
+WALKED_IN = ["list", "tuple", "dict", "sorted", "sum", "any", "all", "enumerate", "zip", "min", "max"]
+NOT_NAMES = """attrgetter breakpoint builtins compile copyright credits delattr dir eval exec exit gc getattr globals
+    hasattr help id importlib license locals methodcaller os quit setattr super type vars sys register mro elements open
+    input version_info with_traceback add_note""".split()
 
 
 def trees():
@@ -103,6 +110,61 @@ class Language(unittest.TestCase):
                 elif isinstance(node, (ast.FunctionDef, ast.ClassDef)):
                     names.append(node.name)
             self.assertEqual(len(names), len(set(names)))
+
+    def test_the_top_holds_plain_values_read_alone(self):
+        for name, tree in trees():
+            kept = []
+            for node in tree.body:
+                self.assertIsInstance(node, (ast.Expr, ast.Assign, ast.FunctionDef, ast.ClassDef), (name, node.lineno))
+                if isinstance(node, ast.Expr):
+                    self.assertIsInstance(node.value.value, str)
+                if isinstance(node, ast.Assign):
+                    kept.append(node.targets[0].id)
+                    for part in ast.walk(node.value):
+                        self.assertNotIsInstance(part, (ast.List, ast.Dict, ast.Call, ast.Lambda), (name, node.lineno))
+            for node in ast.walk(tree):
+                if isinstance(node, ast.FunctionDef):
+                    self.assertEqual([one for one in bound_names(node) if one in kept], [], node.name)
+
+    def test_comprehensions_keywords_and_signs(self):
+        for name, tree in trees():
+            for node in ast.walk(tree):
+                if isinstance(node, ast.ListComp):
+                    self.assertEqual(len(node.generators), 1)
+                    self.assertLessEqual(len(node.generators[0].ifs), 1)
+                if isinstance(node, ast.Call) and node.keywords:
+                    for keyword in node.keywords:
+                        self.assertIn(keyword.arg, KEYWORDS[node.func.id])
+                if isinstance(node, ast.Compare):
+                    for sign in node.ops:
+                        self.assertNotIsInstance(sign, (ast.Is, ast.IsNot), (name, node.lineno))
+                if isinstance(node, ast.arg):
+                    self.assertIsNone(node.annotation)
+                if isinstance(node, ast.FunctionDef):
+                    self.assertIsNone(node.returns)
+                if isinstance(node, (ast.Name, ast.Attribute)):
+                    self.assertNotIn(node.id if isinstance(node, ast.Name) else node.attr, NOT_NAMES)
+
+    def test_walked_at_once(self):
+        for name, tree in trees():
+            walked = []
+            for node in ast.walk(tree):
+                if isinstance(node, (ast.For, ast.comprehension)):
+                    walked.append(node.iter)
+                if isinstance(node, ast.Call) and isinstance(node.func, ast.Name) and node.func.id in WALKED_IN:
+                    walked += node.args[:1]
+            for node in ast.walk(tree):
+                if isinstance(node, ast.Call) and isinstance(node.func, ast.Name) and node.func.id in WALKERS:
+                    self.assertIn(node, walked, (name, node.lineno))
+
+    def test_python_own_names_are_called_and_not_kept(self):
+        for name, tree in trees():
+            called = [node.func for node in ast.walk(tree) if isinstance(node, ast.Call)]
+            for node in ast.walk(tree):
+                if isinstance(node, ast.Name) and node.id in OWN_NAMES:
+                    self.assertIn(node, called, (name, node.lineno))
+                if isinstance(node, ast.Attribute) and node.attr in METHODS:
+                    self.assertIn(node, called, (name, node.lineno))
 
     def test_the_interface(self):
         tree = dict(trees())["guesses.py"]

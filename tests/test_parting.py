@@ -1,8 +1,9 @@
-"""Promise 3: ways, every, growth, depth, deep."""
+"""Promise 3: ways, every, parted, growth, depth, deep, few_ways."""
 
+import math
 import unittest
 
-from calling import BIG, add, adds, ask_behind, begin, deep, depth, drop, every, growth, truth, ways
+from calling import BIG, add, adds, ask_behind, begin, deep, depth, drop, every, few_ways, growth, parted, truth, ways
 
 NONE = [begin(3, 5)]
 ONE = [begin(3, 5), add(6)]
@@ -74,6 +75,37 @@ class Every(unittest.TestCase):
         self.assertEqual(ask_behind(FULL, every(256)), [[-22]])
 
 
+class Parted(unittest.TestCase):
+    def test_how_many_sets_then_how_many_ways(self):
+        before = [begin(4, 0)] + adds([12, 5, 9, 13, 6, 2])
+        self.assertEqual(ask_behind(before, parted(3), parted(12), parted(8), parted(15)),
+                         [[4, 3], [4, 4], [2, 2], [16, 6]])
+
+    def test_no_guesses(self):
+        self.assertEqual(ask_behind(NONE, parted(0), parted(5), parted(7)), [[1, 0], [4, 0], [8, 0]])
+
+    def test_one(self):
+        self.assertEqual(ask_behind(ONE, parted(0), parted(4), parted(7)), [[1, 1], [2, 1], [8, 1]])
+
+    def test_all_sets_of_three_cases(self):
+        self.assertEqual(ask_behind(ALL_OF_THREE, *[parted(s) for s in [0, 4, 5, 7]]), [[1, 1], [2, 2], [4, 4], [8, 8]])
+
+    def test_two_that_differ_on_one_case(self):
+        self.assertEqual(ask_behind(DIFFER_ON_ONE, parted(2), parted(13), parted(15)), [[2, 2], [8, 1], [16, 2]])
+
+    def test_one_case(self):
+        self.assertEqual(ask_behind([begin(1, 0), add(1)], parted(1), add(0), parted(1), parted(0)),
+                         [[2, 1], [1], [2, 2], [1, 1]])
+
+    def test_eight_cases(self):
+        self.assertEqual(ask_behind(FULL, parted(255), parted(15), parted(17), parted(128)),
+                         [[256, 16], [16, 16], [4, 2], [2, 2]])
+
+    def test_other_cases(self):
+        self.assertEqual(ask_behind(ONE, parted(8), parted(BIG), parted(7)), [[-22], [-22], [8, 1]])
+        self.assertEqual(ask_behind(FULL, parted(256)), [[-22]])
+
+
 class Growth(unittest.TestCase):
     def test_no_guesses(self):
         self.assertEqual(ask_behind(NONE, growth(0), growth(1), growth(3)), [[0], [0], [0]])
@@ -142,9 +174,41 @@ class DepthAndDeep(unittest.TestCase):
         self.assertEqual(ask_behind(before, add(7), depth(), deep()), [[4], [2], [3, 3, 5, 6]])
 
 
+class FewWays(unittest.TestCase):
+    def test_at_most_d_things_of_n(self):
+        self.assertEqual(ask_behind(NONE, few_ways(5, 0), few_ways(5, 1), few_ways(5, 2), few_ways(5, 5), few_ways(6, 2)),
+                         [[1], [6], [16], [32], [22]])
+
+    def test_nothing(self):
+        self.assertEqual(ask_behind(NONE, few_ways(0, 0), few_ways(0, 1), few_ways(0, 40), few_ways(40, 0)),
+                         [[1], [1], [1], [1]])
+
+    def test_d_above_n(self):
+        self.assertEqual(ask_behind(NONE, few_ways(3, 4), few_ways(3, 40), few_ways(39, 40), few_ways(1, 2)),
+                         [[8], [8], [2 ** 39], [2]])
+
+    def test_40(self):
+        self.assertEqual(ask_behind(NONE, few_ways(40, 40), few_ways(40, 39), few_ways(40, 1), few_ways(40, 20)),
+                         [[2 ** 40], [2 ** 40 - 1], [41], [(2 ** 40 + math.comb(40, 20)) // 2]])
+
+    def test_each_n_and_d(self):
+        for n in range(41):
+            self.assertEqual(ask_behind(NONE, *[few_ways(n, d) for d in range(41)]),
+                             [[sum(math.comb(n, size) for size in range(d + 1))] for d in range(41)])
+
+    def test_above_40(self):
+        for n, d in [(41, 0), (0, 41), (41, 41), (41, 40), (40, 41), (BIG, 0), (0, BIG), (BIG, BIG)]:
+            with self.subTest(n=n, d=d):
+                self.assertEqual(ask_behind(NONE, few_ways(n, d)), [[-22]])
+
+    def test_cases_and_guesses_are_no_matter(self):
+        self.assertEqual(ask_behind([begin(1, 0), add(1)], few_ways(12, 3)), [[299]])
+        self.assertEqual(ask_behind(FULL, few_ways(12, 3)), [[299]])
+
+
 class LookingChangesNothing(unittest.TestCase):
     def test_looked_at_twice(self):
-        looks = [ways(7), every(7), growth(2), depth(), deep(), ways(5), every(0), growth(3)]
+        looks = [ways(7), every(7), growth(2), depth(), deep(), ways(5), every(0), growth(3), parted(7), few_ways(9, 2)]
         for before in [NONE, ONE, ALL_OF_THREE]:
             with self.subTest(before=before):
                 told = ask_behind(before, *looks, *looks)

@@ -1,54 +1,9 @@
-"""Answers beside those of a slow telling in Python's own sets, for many guesses, and what holds of them."""
+"""Answers beside those of a slow telling in Python's own sets, for many guesses."""
 
-import itertools
-import math
 import unittest
 
-from calling import add, adds, ask, ask_behind, begin, best, deep, depth, drop, every, growth, guess, ways, wrong
-
-
-def as_set(number):
-    return frozenset(case for case in range(8) if number // 2 ** case % 2 == 1)
-
-
-def as_number(cases):
-    return sum(2 ** case for case in cases)
-
-
-def subsets(cases):
-    for size in range(len(cases) + 1):
-        yield from (frozenset(chosen) for chosen in itertools.combinations(sorted(cases), size))
-
-
-def plain_ways(guesses, s):
-    return list(dict.fromkeys(as_set(one) & s for one in guesses))
-
-
-def plain_every(guesses, s):
-    return set(plain_ways(guesses, s)) == set(subsets(s))
-
-
-def plain_wrong(true_ones, one):
-    return as_set(one).symmetric_difference(as_set(true_ones))
-
-
-def plain_best(true_ones, guesses):
-    if not guesses:
-        return [-6]
-    return min([[i, len(plain_wrong(true_ones, one))] for i, one in enumerate(guesses)], key=lambda pair: pair[1])
-
-
-def plain_growth(guesses, cases, k):
-    return max(len(plain_ways(guesses, frozenset(s))) for s in itertools.combinations(range(cases), k))
-
-
-def plain_deep(guesses, cases):
-    if not guesses:
-        return [-6], [-6]
-    parted = [s for s in subsets(range(cases)) if plain_every(guesses, s)]
-    most = max(len(s) for s in parted)
-    largest = sorted(as_number(s) for s in parted if len(s) == most)
-    return [most], [len(largest)] + largest
+from calling import adds, ask_behind, begin, best, deep, depth, drop, every, growth, guess, ways, wrong
+from plain import as_number, as_set, plain_best, plain_deep, plain_every, plain_growth, plain_ways, plain_wrong
 
 
 def spread(seed, cases, many):
@@ -117,32 +72,6 @@ class BesidePlainSets(unittest.TestCase):
             expected += [[one] for one in kept] + [[-2]]
             with self.subTest(seed=seed):
                 self.assertEqual(ask_behind(before, *calls), expected)
-
-
-class WhatHolds(unittest.TestCase):
-    def families(self):
-        for seed in range(1, 60):
-            cases = 1 + seed % 5
-            yield cases, list(dict.fromkeys(spread(seed, cases, 1 + seed * 5 % 16)))
-
-    def test_no_more_ways_than_so_few(self):
-        for cases, chosen in self.families():
-            told = ask_behind([begin(cases, 0)] + adds(chosen), depth(), *[growth(k) for k in range(cases + 1)])
-            for k in range(cases + 1):
-                self.assertLessEqual(told[1 + k][0], sum(math.comb(k, size) for size in range(told[0][0] + 1)))
-
-    def test_as_many_as_parted(self):
-        for cases, chosen in self.families():
-            told = ask_behind([begin(cases, 0)] + adds(chosen), *[every(s) for s in range(2 ** cases)])
-            self.assertGreaterEqual(told.count([1]), len(chosen))
-
-    def test_what_is_refused_and_looking_changes_nothing(self):
-        looks = [best(), ways(11), depth(), deep(), growth(3), every(3), wrong(0), guess(1)]
-        refused = [begin(0, 0), begin(4, 16), add(16), add(6), drop(2), [3, 16], guess(2), wrong(2), ways(16), every(16),
-                   growth(5)]
-        told = ask(begin(4, 9), add(6), add(3), *looks, *refused, *looks)[3:]
-        self.assertEqual(told[:len(looks)], told[-len(looks):])
-        self.assertTrue(all(len(each) == 1 and each[0] < 0 for each in told[len(looks):-len(looks)]))
 
 
 if __name__ == "__main__":
